@@ -1,0 +1,1 @@
+"""Votes on the valley's roads."""
