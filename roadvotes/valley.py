@@ -6,8 +6,6 @@ LONGEST_ROAD = 1000
 
 
 class Valley:
-    """The one object that all calls of a line are made on."""
-
     def __init__(self):
         self.begin()
 
@@ -64,7 +62,6 @@ def is_road_length(far):
 
 
 def distance_table(ups, roads):
-    """How far each village is from each: table[v][w]."""
     table = [[0]]
     for v in range(1, len(ups)):
         # All ways from a new village to older ones begin with its road to its up.
@@ -82,8 +79,8 @@ def all_votes(told):
     return list(told)
 
 
+# Below a village are it and all whose way to village 0 goes over it.
 def votes_below(ups, votes):
-    """For each village, the votes of it and of all whose way to village 0 goes over it."""
     below = [0] * len(ups)
     for v in votes:
         below[v] += 1
