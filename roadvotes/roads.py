@@ -121,16 +121,107 @@ def vo_lie(valley, numbers):
     if not valley.has_voter(i) or not valley.has_village(v):
         return [NOT_THERE]
     place = valley.chosen_if(i, v)
-    return [place, valley.distances()[valley.told[i]][place]]
+    return [place, valley.distances_from_home(i)[place]]
 
 
 def vo_best(valley, numbers):
     i = numbers[0]
     if not valley.has_voter(i):
         return [NOT_THERE]
-    from_home = valley.distances()[valley.told[i]]
-    least = min([from_home[valley.chosen_if(i, v)] for v in range(len(valley.ups))])
+    from_home = valley.distances_from_home(i)
+    least = min([from_home[place] for place in valley.swayed_by(i)])
     return [least, from_home[valley.chosen()]]
+
+
+def vo_both(valley, numbers):
+    i = numbers[0]
+    j = numbers[1]
+    v = numbers[2]
+    w = numbers[3]
+    if not valley.has_voter(i) or not valley.has_voter(j):
+        return [NOT_THERE]
+    if not valley.has_village(v) or not valley.has_village(w):
+        return [NOT_THERE]
+    if i == j:
+        return [OUT_OF_RANGE]
+    place = valley.chosen_if_both(i, j, v, w)
+    return [place, valley.distances_from_home(i)[place], valley.distances_from_home(j)[place]]
+
+
+def vo_sways(valley, numbers):
+    i = numbers[0]
+    if not valley.has_voter(i):
+        return [NOT_THERE]
+    return count_and_bits(valley.swayed_by(i))
+
+
+def vo_with(valley, numbers):
+    v = numbers[0]
+    if not valley.has_village(v):
+        return [NOT_THERE]
+    return [valley.chosen_with(v)]
+
+
+def vo_nearer(valley, numbers):
+    v = numbers[0]
+    if not valley.has_village(v):
+        return [NOT_THERE]
+    return [count_rather(valley.distances(), valley.told, v, valley.chosen())]
+
+
+def vo_far(valley, numbers):
+    i = numbers[0]
+    if not valley.has_voter(i):
+        return [NOT_THERE]
+    return [valley.distances_from_home(i)[valley.chosen()]]
+
+
+def vo_total(valley, numbers):
+    v = numbers[0]
+    if not valley.has_village(v):
+        return [NOT_THERE]
+    return [distance_of_all(valley.distances(), valley.told, v)]
+
+
+def vo_who(valley, numbers):
+    v = numbers[0]
+    if not valley.has_village(v):
+        return [NOT_THERE]
+    return count_and_bits(valley.voters_of(v))
+
+
+def vo_look(valley, numbers):
+    i = numbers[0]
+    if not valley.has_voter(i):
+        return [NOT_THERE]
+    return [valley.told[i]]
+
+
+def vo_place(valley, numbers):
+    v = numbers[0]
+    if not valley.has_village(v):
+        return [NOT_THERE]
+    return [valley.ups[v], valley.roads[v]]
+
+
+def vo_sums(valley, numbers):
+    return [len(valley.told), sum(valley.roads)]
+
+
+def vo_back(valley, numbers):
+    if len(valley.to_take_back) == 0:
+        return [NOT_THERE]
+    return [valley.take_back()]
+
+
+def vo_again(valley, numbers):
+    if len(valley.to_do_again) == 0:
+        return [NOT_THERE]
+    return [valley.do_again()]
+
+
+def vo_state(valley, numbers):
+    return [len(valley.ups), len(valley.to_take_back), len(valley.to_do_again)]
 
 
 ROW_CALL = 10
@@ -149,6 +240,19 @@ CALLS = {
     10: vo_row,
     11: vo_lie,
     12: vo_best,
+    13: vo_both,
+    14: vo_sways,
+    15: vo_with,
+    16: vo_nearer,
+    17: vo_far,
+    18: vo_total,
+    19: vo_who,
+    20: vo_look,
+    21: vo_place,
+    22: vo_sums,
+    23: vo_back,
+    24: vo_again,
+    25: vo_state,
 }
 
 # How many whole numbers a call has, its row not among them.
@@ -166,6 +270,19 @@ WHOLE_NUMBERS = {
     10: 1,
     11: 2,
     12: 1,
+    13: 4,
+    14: 1,
+    15: 1,
+    16: 1,
+    17: 1,
+    18: 1,
+    19: 1,
+    20: 1,
+    21: 1,
+    22: 0,
+    23: 0,
+    24: 0,
+    25: 0,
 }
 
 

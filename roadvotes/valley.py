@@ -3,6 +3,7 @@
 MOST_VILLAGES = 12
 MOST_VOTERS = 11
 LONGEST_ROAD = 1000
+MOST_TAKEN_BACK = 20
 
 
 class Valley:
@@ -15,6 +16,8 @@ class Valley:
         self.ups = [0]
         self.roads = [0]
         self.told = []
+        self.to_take_back = []
+        self.to_do_again = []
 
     def has_village(self, v):
         return v < len(self.ups)
@@ -22,39 +25,84 @@ class Valley:
     def has_voter(self, i):
         return i < len(self.told)
 
+    # Copies, so that what changes later leaves what was kept alone.
+    def state(self):
+        return (tuple(self.ups), tuple(self.roads), tuple(self.told))
+
+    def restore(self, kept):
+        self.ups = list(kept[0])
+        self.roads = list(kept[1])
+        self.told = list(kept[2])
+
+    def keep_for_taking_back(self):
+        self.to_take_back.append(self.state())
+        if len(self.to_take_back) > MOST_TAKEN_BACK:
+            self.to_take_back.pop(0)
+        self.to_do_again.clear()
+
+    def take_back(self):
+        self.to_do_again.append(self.state())
+        self.restore(self.to_take_back.pop())
+        return len(self.to_take_back)
+
+    # What is done again had been taken back, so there is room for it among the last 20.
+    def do_again(self):
+        self.to_take_back.append(self.state())
+        self.restore(self.to_do_again.pop())
+        return len(self.to_do_again)
+
     def add_village(self, up, far):
+        self.keep_for_taking_back()
         self.ups.append(up)
         self.roads.append(far)
         return len(self.ups) - 1
 
     def set_road(self, v, far):
+        self.keep_for_taking_back()
         before = self.roads[v]
         self.roads[v] = far
         return before
 
     def add_voter(self, v):
+        self.keep_for_taking_back()
         self.told.append(v)
         return len(self.told) - 1
 
     def move_voter(self, i, v):
+        self.keep_for_taking_back()
         before = self.told[i]
         self.told[i] = v
         return before
 
     def drop_voter(self, i):
+        self.keep_for_taking_back()
         self.told.pop(i)
         return len(self.told)
 
     def distances(self):
         return distance_table(self.ups, self.roads)
 
+    def distances_from_home(self, i):
+        return self.distances()[self.told[i]]
+
     def chosen(self):
         return chosen_place(self.ups, self.told)
 
     def chosen_if(self, i, v):
-        told = list(self.told)
-        told[i] = v
-        return chosen_place(self.ups, told)
+        return chosen_place(self.ups, with_other_told(self.told, i, v))
+
+    def chosen_if_both(self, i, j, v, w):
+        told = with_other_told(self.told, i, v)
+        return chosen_place(self.ups, with_other_told(told, j, w))
+
+    def chosen_with(self, v):
+        return chosen_place(self.ups, self.told + [v])
+
+    def swayed_by(self, i):
+        return sorted(set([self.chosen_if(i, v) for v in range(len(self.ups))]))
+
+    def voters_of(self, v):
+        return [i for i in range(len(self.told)) if self.told[i] == v]
 
 
 def is_road_length(far):
@@ -71,6 +119,12 @@ def distance_table(ups, roads):
         row.append(0)
         table.append(row)
     return table
+
+
+def with_other_told(told, i, v):
+    other = list(told)
+    other[i] = v
+    return other
 
 
 def all_votes(told):

@@ -59,6 +59,58 @@ def best(i):
     return [12, i]
 
 
+def both(i, j, v, w):
+    return [13, i, j, v, w]
+
+
+def sways(i):
+    return [14, i]
+
+
+def with_one_more(v):
+    return [15, v]
+
+
+def nearer(v):
+    return [16, v]
+
+
+def far(i):
+    return [17, i]
+
+
+def total(v):
+    return [18, v]
+
+
+def who(v):
+    return [19, v]
+
+
+def look(i):
+    return [20, i]
+
+
+def place(v):
+    return [21, v]
+
+
+def sums():
+    return [22]
+
+
+def back():
+    return [23]
+
+
+def again():
+    return [24]
+
+
+def state():
+    return [25]
+
+
 def flat(calls):
     return [number for call in calls for number in call]
 
@@ -78,7 +130,10 @@ def apart(numbers):
 
 def ask(*calls):
     """The answers to a line that begins with a vo_start, without that one's answer."""
-    parts = apart(answers(flat([start(), *calls])))
+    line = flat([start(), *calls])
+    if len(calls) > 999 or len(line) > 8100:
+        raise ValueError(f"such a line is not handed in: {len(calls)} calls, {len(line)} numbers")
+    parts = apart(answers(line))
     if parts[0] != [0] or len(parts) != len(calls) + 1:
         raise ValueError(f"{len(calls)} calls behind a vo_start were answered by {parts}")
     return parts[1:]
@@ -95,13 +150,14 @@ def ask_behind(before, *calls):
 
 def everything(villages, voters):
     """Questions that together show all of a valley: its ways, its votes, what is chosen."""
-    calls = [chosen(), unbeaten()]
+    calls = [chosen(), unbeaten(), sums()]
     for v in range(villages):
-        calls.append(beaten(v))
+        calls.extend([beaten(v), with_one_more(v), nearer(v), total(v), who(v), place(v)])
         calls.extend(rather(v, w) for w in range(villages))
     for i in range(voters):
-        calls.append(best(i))
+        calls.extend([best(i), sways(i), far(i), look(i)])
         calls.extend(lie(i, v) for v in range(villages))
+        calls.extend(both(i, j, j % villages, i % villages) for j in range(voters))
     # One past the last: that no village and no voter more is there.
-    calls.extend([beaten(villages), best(voters)])
+    calls.extend([place(villages), look(voters)])
     return calls

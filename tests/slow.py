@@ -6,11 +6,20 @@ class Slow:
         self.start()
 
     def start(self):
+        self.done = []
+        self.undone = []
+        self.can_go_back = 0
+        self.make_of_changes()
+        return [0]
+
+    def make_of_changes(self):
+        """The valley as the changes make it that were done and not taken back, from the first on."""
         self.joined = {0: {}}
         self.up = {}
         self.voters = []
         self.ways = {}
-        return [0]
+        for call in self.done:
+            self.call(call)
 
     def village(self, up, far):
         if up not in self.joined:
@@ -102,6 +111,79 @@ class Slow:
         could_be = [self.far(home, self.chosen_by(self.telling(i, v))) for v in self.joined]
         return [min(could_be), self.far(home, self.chosen_by(self.voters))]
 
+    def both(self, i, j, v, w):
+        if i >= len(self.voters) or j >= len(self.voters) or v not in self.joined or w not in self.joined:
+            return [-2]
+        if i == j:
+            return [-22]
+        instead = {i: v, j: w}
+        place = self.chosen_by([instead.get(k, home) for k, home in enumerate(self.voters)])
+        return [place, self.far(self.voters[i], place), self.far(self.voters[j], place)]
+
+    def sways(self, i):
+        if i >= len(self.voters):
+            return [-2]
+        return self.told_as_set({self.chosen_by(self.telling(i, v)) for v in self.joined})
+
+    def with_one_more(self, v):
+        if v not in self.joined:
+            return [-2]
+        return [self.chosen_by(self.voters + [v])]
+
+    def nearer(self, v):
+        if v not in self.joined:
+            return [-2]
+        return [self.count_rather(v, self.chosen_by(self.voters))]
+
+    def far_from_voter(self, i):
+        if i >= len(self.voters):
+            return [-2]
+        return [self.far(self.chosen_by(self.voters), self.voters[i])]
+
+    def total(self, v):
+        if v not in self.joined:
+            return [-2]
+        return [sum(self.far(v, home) for home in self.voters)]
+
+    def who(self, v):
+        if v not in self.joined:
+            return [-2]
+        return self.told_as_set([i for i, home in enumerate(self.voters) if home == v])
+
+    def look(self, i):
+        if i >= len(self.voters):
+            return [-2]
+        return [self.voters[i]]
+
+    def place(self, v):
+        if v not in self.joined:
+            return [-2]
+        if v == 0:
+            return [0, 0]
+        return [self.up[v], self.joined[v][self.up[v]]]
+
+    def sums(self):
+        return [len(self.voters), sum(self.joined[v][self.up[v]] for v in self.up)]
+
+    def back(self):
+        if self.can_go_back == 0:
+            return [-2]
+        self.undone.append(self.done.pop())
+        self.can_go_back -= 1
+        self.make_of_changes()
+        return [self.can_go_back]
+
+    def again(self):
+        if not self.undone:
+            return [-2]
+        self.done.append(self.undone.pop())
+        self.can_go_back += 1
+        self.make_of_changes()
+        return [len(self.undone)]
+
+    def state(self):
+        return [len(self.joined), self.can_go_back, len(self.undone)]
+
     def telling(self, i, v):
         return self.voters[:i] + [v] + self.voters[i + 1:]
 
@@ -150,7 +232,17 @@ class Slow:
     def told_as_set(self, members):
         return [len(members), sum(2 ** k for k in members)]
 
-    def answer(self, call):
+    def call(self, call):
         calls = [self.start, self.village, self.road, self.vote, self.move, self.away, self.chosen,
-                 self.rather, self.unbeaten, self.beaten, self.row, self.lie, self.best]
+                 self.rather, self.unbeaten, self.beaten, self.row, self.lie, self.best, self.both,
+                 self.sways, self.with_one_more, self.nearer, self.far_from_voter, self.total, self.who,
+                 self.look, self.place, self.sums, self.back, self.again, self.state]
         return calls[call[0]](*call[1:])
+
+    def answer(self, call):
+        answer = self.call(call)
+        if call[0] in (1, 2, 3, 4, 5) and answer[0] >= 0:
+            self.done.append(call)
+            self.undone = []
+            self.can_go_back = min(20, self.can_go_back + 1)
+        return answer

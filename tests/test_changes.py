@@ -2,22 +2,13 @@
 
 import unittest
 
+from tests.as_it_was import AsItWas
 from tests.examples import FORK, FORK_FAR, FORK_OF_THREE, FULL_OF_BOTH, FULL_OF_VILLAGES
-from tests.lines import (LARGEST, ask, ask_behind, away, beaten, best, chosen, everything, last, move,
+from tests.lines import (LARGEST, ask, ask_behind, away, beaten, best, chosen, last, move,
                          rather, road, start, unbeaten, village, vote)
 
 
-class Changes(unittest.TestCase):
-    def assert_refused(self, before, villages, voters, call, number):
-        """The call answers the number alone, and all is as it was."""
-        questions = everything(villages, voters)
-        untouched = ask_behind(before, *questions)
-        answered = ask_behind(before, call, *questions)
-        self.assertEqual(answered[0], [number])
-        self.assertEqual(answered[1:], untouched)
-
-
-class Start(Changes):
+class Start(AsItWas):
     def test_there_is_village_0_alone_and_no_voter(self):
         self.assertEqual(ask(), [])
         self.assertEqual(ask(unbeaten(), beaten(0), beaten(1), chosen(), best(0)),
@@ -39,7 +30,7 @@ class Start(Changes):
         self.assertEqual(ask(start(), start()), [[0], [0]])
 
 
-class Village(Changes):
+class Village(AsItWas):
     def test_answers_its_number(self):
         self.assertEqual(ask(*FORK), [[1], [2], [3], [4]])
 
@@ -56,35 +47,35 @@ class Village(Changes):
         self.assertEqual(answered, [[1], [2], [0], [1], [2], [1, 1001]])
 
     def test_no_up(self):
-        self.assert_refused([], 1, 0, village(1, 5), -2)
-        self.assert_refused(FORK_OF_THREE, 5, 3, village(5, 5), -2)
-        self.assert_refused(FORK_OF_THREE, 5, 3, village(LARGEST, 5), -2)
+        self.assert_as_it_was([], 1, 0, village(1, 5), -2)
+        self.assert_as_it_was(FORK_OF_THREE, 5, 3, village(5, 5), -2)
+        self.assert_as_it_was(FORK_OF_THREE, 5, 3, village(LARGEST, 5), -2)
 
     def test_too_short_and_too_long(self):
         for far in (0, 1001, LARGEST):
-            self.assert_refused(FORK_OF_THREE, 5, 3, village(4, far), -22)
+            self.assert_as_it_was(FORK_OF_THREE, 5, 3, village(4, far), -22)
 
     def test_there_are_12(self):
         self.assertEqual(ask(*FULL_OF_VILLAGES), [[v] for v in range(1, 12)])
-        self.assert_refused(FULL_OF_VILLAGES + [vote(11)], 12, 1, village(11, 1), -28)
-        self.assert_refused(FULL_OF_BOTH, 12, 11, village(0, 1000), -28)
+        self.assert_as_it_was(FULL_OF_VILLAGES + [vote(11)], 12, 1, village(11, 1), -28)
+        self.assert_as_it_was(FULL_OF_BOTH, 12, 11, village(0, 1000), -28)
 
     def test_the_twelfth_is_a_village_like_others(self):
         self.assertEqual(ask_behind(FULL_OF_VILLAGES, vote(11), chosen(), road(11, 3), beaten(0)),
                          [[0], [11, 0], [11], [3, 2084]])
 
     def test_which_refusal_comes_first(self):
-        self.assert_refused(FORK, 5, 0, village(5, 0), -2)
-        self.assert_refused(FULL_OF_BOTH, 12, 11, village(12, 1001), -2)
-        self.assert_refused(FULL_OF_BOTH, 12, 11, village(12, 5), -2)
-        self.assert_refused(FULL_OF_BOTH, 12, 11, village(0, 0), -22)
-        self.assert_refused(FULL_OF_BOTH, 12, 11, village(0, 1001), -22)
+        self.assert_as_it_was(FORK, 5, 0, village(5, 0), -2)
+        self.assert_as_it_was(FULL_OF_BOTH, 12, 11, village(12, 1001), -2)
+        self.assert_as_it_was(FULL_OF_BOTH, 12, 11, village(12, 5), -2)
+        self.assert_as_it_was(FULL_OF_BOTH, 12, 11, village(0, 0), -22)
+        self.assert_as_it_was(FULL_OF_BOTH, 12, 11, village(0, 1001), -22)
 
     def test_a_refused_one_takes_no_number(self):
         self.assertEqual(ask(village(1, 5), village(0, 0), village(0, 5)), [[-2], [-22], [1]])
 
 
-class Road(Changes):
+class Road(AsItWas):
     def test_answers_how_long_it_was(self):
         self.assertEqual(ask_behind(FORK, road(3, 9), road(3, 1), road(3, 1000), road(3, 1000), road(1, 6)),
                          [[4], [9], [1], [1000], [5]])
@@ -97,25 +88,25 @@ class Road(Changes):
         self.assertEqual(ask_behind(FORK, road(2, 10), road(1, 20), road(3, 30), road(4, 40)), [[3], [5], [4], [2]])
 
     def test_no_village(self):
-        self.assert_refused(FORK_OF_THREE, 5, 3, road(5, 1), -2)
-        self.assert_refused(FORK_OF_THREE, 5, 3, road(LARGEST, 1), -2)
+        self.assert_as_it_was(FORK_OF_THREE, 5, 3, road(5, 1), -2)
+        self.assert_as_it_was(FORK_OF_THREE, 5, 3, road(LARGEST, 1), -2)
 
     def test_too_short_and_too_long(self):
         for n in (0, 1001, LARGEST):
-            self.assert_refused(FORK_OF_THREE, 5, 3, road(2, n), -22)
+            self.assert_as_it_was(FORK_OF_THREE, 5, 3, road(2, n), -22)
 
     def test_village_0_has_none(self):
-        self.assert_refused(FORK_OF_THREE, 5, 3, road(0, 1), -33)
-        self.assert_refused([], 1, 0, road(0, 1000), -33)
+        self.assert_as_it_was(FORK_OF_THREE, 5, 3, road(0, 1), -33)
+        self.assert_as_it_was([], 1, 0, road(0, 1000), -33)
 
     def test_which_refusal_comes_first(self):
-        self.assert_refused(FORK, 5, 0, road(5, 0), -2)
-        self.assert_refused(FORK, 5, 0, road(5, 1001), -2)
-        self.assert_refused(FORK, 5, 0, road(0, 0), -22)
-        self.assert_refused(FORK, 5, 0, road(0, 1001), -22)
+        self.assert_as_it_was(FORK, 5, 0, road(5, 0), -2)
+        self.assert_as_it_was(FORK, 5, 0, road(5, 1001), -2)
+        self.assert_as_it_was(FORK, 5, 0, road(0, 0), -22)
+        self.assert_as_it_was(FORK, 5, 0, road(0, 1001), -22)
 
 
-class Vote(Changes):
+class Vote(AsItWas):
     def test_answers_their_number(self):
         self.assertEqual(ask_behind(FORK, vote(3), vote(0), vote(3), vote(4)), [[0], [1], [2], [3]])
 
@@ -124,21 +115,21 @@ class Vote(Changes):
                          [[0], [1], [2], [3], [0], [4]])
 
     def test_no_village(self):
-        self.assert_refused([], 1, 0, vote(1), -2)
-        self.assert_refused(FORK_OF_THREE, 5, 3, vote(5), -2)
-        self.assert_refused(FORK_OF_THREE, 5, 3, vote(LARGEST), -2)
+        self.assert_as_it_was([], 1, 0, vote(1), -2)
+        self.assert_as_it_was(FORK_OF_THREE, 5, 3, vote(5), -2)
+        self.assert_as_it_was(FORK_OF_THREE, 5, 3, vote(LARGEST), -2)
 
     def test_there_are_11(self):
         self.assertEqual(ask(*[vote(0) for i in range(12)]), [[i] for i in range(11)] + [[-28]])
-        self.assert_refused(FULL_OF_BOTH, 12, 11, vote(0), -28)
-        self.assert_refused(FULL_OF_BOTH, 12, 11, vote(11), -28)
+        self.assert_as_it_was(FULL_OF_BOTH, 12, 11, vote(0), -28)
+        self.assert_as_it_was(FULL_OF_BOTH, 12, 11, vote(11), -28)
 
     def test_which_refusal_comes_first(self):
-        self.assert_refused(FULL_OF_BOTH, 12, 11, vote(12), -2)
-        self.assert_refused(FULL_OF_BOTH, 12, 11, vote(LARGEST), -2)
+        self.assert_as_it_was(FULL_OF_BOTH, 12, 11, vote(12), -2)
+        self.assert_as_it_was(FULL_OF_BOTH, 12, 11, vote(LARGEST), -2)
 
 
-class Move(Changes):
+class Move(AsItWas):
     def test_answers_which_they_told(self):
         self.assertEqual(ask_behind(FORK_OF_THREE, move(1, 0), move(1, 4), move(1, 4), move(0, 1), move(2, 2)),
                          [[3], [0], [4], [2], [4]])
@@ -148,22 +139,22 @@ class Move(Changes):
                          [[1, 14], [4], [3, 7], [1, 2]])
 
     def test_no_voter(self):
-        self.assert_refused(FORK, 5, 0, move(0, 0), -2)
-        self.assert_refused(FORK_OF_THREE, 5, 3, move(3, 0), -2)
-        self.assert_refused(FORK_OF_THREE, 5, 3, move(LARGEST, 0), -2)
+        self.assert_as_it_was(FORK, 5, 0, move(0, 0), -2)
+        self.assert_as_it_was(FORK_OF_THREE, 5, 3, move(3, 0), -2)
+        self.assert_as_it_was(FORK_OF_THREE, 5, 3, move(LARGEST, 0), -2)
 
     def test_no_village(self):
-        self.assert_refused(FORK_OF_THREE, 5, 3, move(0, 5), -2)
-        self.assert_refused(FORK_OF_THREE, 5, 3, move(0, LARGEST), -2)
-        self.assert_refused(FORK_OF_THREE, 5, 3, move(3, 5), -2)
+        self.assert_as_it_was(FORK_OF_THREE, 5, 3, move(0, 5), -2)
+        self.assert_as_it_was(FORK_OF_THREE, 5, 3, move(0, LARGEST), -2)
+        self.assert_as_it_was(FORK_OF_THREE, 5, 3, move(3, 5), -2)
 
     def test_the_eleventh_voter_and_the_twelfth_village(self):
         self.assertEqual(ask_behind(FULL_OF_BOTH, move(10, 11), move(10, 0)), [[10], [11]])
-        self.assert_refused(FULL_OF_BOTH, 12, 11, move(11, 11), -2)
-        self.assert_refused(FULL_OF_BOTH, 12, 11, move(10, 12), -2)
+        self.assert_as_it_was(FULL_OF_BOTH, 12, 11, move(11, 11), -2)
+        self.assert_as_it_was(FULL_OF_BOTH, 12, 11, move(10, 12), -2)
 
 
-class Away(Changes):
+class Away(AsItWas):
     def test_answers_how_many_are_left(self):
         self.assertEqual(ask_behind(FORK_OF_THREE, away(1), away(1), away(0), away(0)), [[2], [1], [0], [-2]])
 
@@ -181,10 +172,10 @@ class Away(Changes):
                          [[-28], [10], [10], [-28], [7], [10]])
 
     def test_no_voter(self):
-        self.assert_refused([], 1, 0, away(0), -2)
-        self.assert_refused(FORK_OF_THREE, 5, 3, away(3), -2)
-        self.assert_refused(FORK_OF_THREE, 5, 3, away(LARGEST), -2)
-        self.assert_refused(FULL_OF_BOTH, 12, 11, away(11), -2)
+        self.assert_as_it_was([], 1, 0, away(0), -2)
+        self.assert_as_it_was(FORK_OF_THREE, 5, 3, away(3), -2)
+        self.assert_as_it_was(FORK_OF_THREE, 5, 3, away(LARGEST), -2)
+        self.assert_as_it_was(FULL_OF_BOTH, 12, 11, away(11), -2)
 
 
 if __name__ == "__main__":

@@ -22,6 +22,19 @@ class Form(unittest.TestCase):
         self.assertEqual(answers([0, 10, 1, 5, 0, 9, 9, 9, 9]), [1, 0, 1, 0])
         self.assertEqual(answers([0, 3, 0, 11, 0, 0]), [1, 0, 1, 0, 2, 0, 0])
         self.assertEqual(answers([0, 3, 0, 12, 0]), [1, 0, 1, 0, 2, 0, 0])
+        self.assertEqual(answers([0, 3, 0, 3, 0, 13, 0, 1, 0, 0]), [1, 0, 1, 0, 1, 1, 3, 0, 0, 0])
+        self.assertEqual(answers([0, 3, 0, 14, 0]), [1, 0, 1, 0, 2, 1, 1])
+        self.assertEqual(answers([0, 15, 0]), [1, 0, 1, 0])
+        self.assertEqual(answers([0, 16, 0]), [1, 0, 1, 0])
+        self.assertEqual(answers([0, 3, 0, 17, 0]), [1, 0, 1, 0, 1, 0])
+        self.assertEqual(answers([0, 18, 0]), [1, 0, 1, 0])
+        self.assertEqual(answers([0, 19, 0]), [1, 0, 2, 0, 0])
+        self.assertEqual(answers([0, 3, 0, 20, 0]), [1, 0, 1, 0, 1, 0])
+        self.assertEqual(answers([0, 21, 0]), [1, 0, 2, 0, 0])
+        self.assertEqual(answers([0, 22]), [1, 0, 2, 0, 0])
+        self.assertEqual(answers([0, 3, 0, 23]), [1, 0, 1, 0, 1, 0])
+        self.assertEqual(answers([0, 3, 0, 23, 24]), [1, 0, 1, 0, 1, 0, 1, 0])
+        self.assertEqual(answers([0, 25]), [1, 0, 3, 1, 0, 0])
 
     def test_a_refusal_is_one_number_alone(self):
         self.assertEqual(answers([0, 1, 1, 5]), [1, 0, 1, -2])
@@ -35,12 +48,29 @@ class Form(unittest.TestCase):
         self.assertEqual(answers([0, 10, 6, 5, 0, 0, 0, 0, 0]), [1, 0, 1, -22])
         self.assertEqual(answers([0, 11, 0, 0]), [1, 0, 1, -2])
         self.assertEqual(answers([0, 12, 0]), [1, 0, 1, -2])
+        self.assertEqual(answers([0, 13, 0, 1, 0, 0]), [1, 0, 1, -2])
+        self.assertEqual(answers([0, 3, 0, 13, 0, 0, 0, 0]), [1, 0, 1, 0, 1, -22])
+        self.assertEqual(answers([0, 14, 0]), [1, 0, 1, -2])
+        self.assertEqual(answers([0, 15, 1]), [1, 0, 1, -2])
+        self.assertEqual(answers([0, 16, 1]), [1, 0, 1, -2])
+        self.assertEqual(answers([0, 17, 0]), [1, 0, 1, -2])
+        self.assertEqual(answers([0, 18, 1]), [1, 0, 1, -2])
+        self.assertEqual(answers([0, 19, 1]), [1, 0, 1, -2])
+        self.assertEqual(answers([0, 20, 0]), [1, 0, 1, -2])
+        self.assertEqual(answers([0, 21, 1]), [1, 0, 1, -2])
+        self.assertEqual(answers([0, 23]), [1, 0, 1, -2])
+        self.assertEqual(answers([0, 24]), [1, 0, 1, -2])
 
     def test_all_calls_one_behind_another(self):
         calls = [0, 1, 0, 5, 1, 1, 3, 2, 2, 4, 3, 2, 3, 0, 3, 2, 4, 1, 1, 6, 7, 1, 0, 8, 9, 2,
                  10, 3, 5, 0, 2, 1, 77, 88, 11, 1, 0, 12, 0, 5, 0, 6, 0, 8]
         self.assertEqual(answers(calls), [1, 0, 1, 1, 1, 2, 1, 3, 1, 0, 1, 1, 1, 2, 1, 0, 2, 2, 4, 2, 3, 0, 2, 1, 4, 2, 0, 0,
                                           1, 2, 2, 2, 4, 2, 0, 0, 1, 2, 2, 1, 4, 1, 0, 2, 1, 1])
+        # Villages 0 -5- 1 -3- 2, and voters 0, 1, 2 tell 2, 0, 2.
+        calls = [0, 1, 0, 5, 1, 1, 3, 3, 2, 3, 0, 3, 2, 13, 1, 0, 1, 1, 14, 0, 15, 0, 16, 0, 17, 1, 18, 1, 19, 2,
+                 20, 1, 21, 2, 22, 23, 24, 25]
+        self.assertEqual(answers(calls), [1, 0, 1, 1, 1, 2, 1, 0, 1, 1, 1, 2, 3, 1, 5, 3, 2, 3, 7, 1, 0, 1, 1, 1, 8,
+                                          1, 11, 2, 2, 5, 1, 0, 2, 1, 3, 2, 3, 8, 1, 4, 1, 0, 3, 3, 5, 0])
 
     def test_whole_numbers_in_a_list(self):
         answered = answers(flat([start()] + FORK_OF_THREE + everything(5, 3) + [row(2, 0, 1)]))
@@ -53,6 +83,8 @@ class Form(unittest.TestCase):
                  [10, 1, 5] + [LARGEST] * 5, [11, LARGEST, LARGEST], [12, LARGEST]]
         self.assertEqual(apart(answers(flat([start()] + calls))),
                          [[0], [-2], [-2], [-2], [-2], [-2], [-2], [-2], [-22], [-2], [-2], [-2]])
+        calls = [[13] + [LARGEST] * 4] + [[number, LARGEST] for number in range(14, 22)]
+        self.assertEqual(apart(answers(flat([start()] + calls))), [[0]] + [[-2]] * 9)
 
 
 class Long(unittest.TestCase):
@@ -73,10 +105,27 @@ class Long(unittest.TestCase):
         self.assertEqual(apart(answers(flat(calls))), [[0], [1], [0]] + [[0], [1]] * 498 + [[0, 0]])
 
 
+    def test_a_thousand_of_each_call(self):
+        calls = [[6], [7, 11, 0], [8], [9, 11], row(5, 11, 10, 9, 8, 7), [11, 10, 11], [12, 10], [13, 9, 10, 11, 11],
+                 [14, 10], [15, 11], [16, 11], [17, 10], [18, 11], [19, 10], [20, 10], [21, 11], [22], [25]]
+        for call in calls:
+            behind = [call] * (999 - len(FULL_OF_BOTH))
+            answered = apart(answers(flat([start()] + FULL_OF_BOTH + behind)))
+            self.assertEqual(len(answered), 1000)
+            self.assertEqual(answered[1 + len(FULL_OF_BOTH):], [answered[-1]] * len(behind))
+            self.assertGreaterEqual(answered[-1][0], 0)
+
+    def test_a_thousand_times_back_and_again(self):
+        calls = [start()] + FULL_OF_BOTH + [[23], [24]] * 488 + [[25]]
+        self.assertEqual(len(calls), 1000)
+        self.assertEqual(apart(answers(flat(calls)))[23:], [[19], [0]] * 488 + [[12, 20, 0]])
+
+
 class Untouched(unittest.TestCase):
     def setUp(self):
         self.calls = flat([start()] + FULL_OF_BOTH + [[4, 3, 9], [2, 4, 1000], [5, 1], row(5, 0, 1, 2, 3, 4)]
-                          + everything(12, 10) + [start(), village(0, 3), vote(1), [6]])
+                          + everything(12, 10) + [[23], [23], [24], [25]]
+                          + [start(), village(0, 3), vote(1), [6], [23], [25], [24]])
 
     def test_what_is_handed_in_stays_as_it_was(self):
         handed_in = list(self.calls)
@@ -95,8 +144,12 @@ class Untouched(unittest.TestCase):
 
     def test_a_second_time_it_answers_the_same(self):
         first = answers(self.calls)
-        answers(flat([start(), village(0, 7), vote(1), vote(1)]))
+        answers(flat([start(), village(0, 7), vote(1), vote(1), [23]]))
         self.assertEqual(answers(self.calls), first)
+
+    def test_what_was_done_another_time_is_not_there_to_take_back(self):
+        answers(flat([start(), village(0, 7), vote(1), vote(1), [23]]))
+        self.assertEqual(answers([0, 25, 23, 24]), [1, 0, 3, 1, 0, 0, 1, -2, 1, -2])
 
     def test_what_was_answered_is_not_changed_later(self):
         first = answers(self.calls)
